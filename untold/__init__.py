@@ -1,0 +1,1 @@
+"""untold: parties who reckon together and show nothing but what is told."""
