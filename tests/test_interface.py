@@ -1,0 +1,100 @@
+"""u1 and the opening words of the interface: names, arguments, files, and kinds of values."""
+
+import importlib
+import inspect
+import unittest
+
+INTERFACE = {
+    "field": {"is_prime": "n", "inverse": "p a", "power": "p a k"},
+    "polys": {
+        "value_at": "p poly x", "through": "p points values", "weights": "p points x", "veil": "p points",
+        "added": "p one other", "scaled": "p c poly",
+    },
+    "sharing": {
+        "check_setting": "setting", "shares": "setting s coins", "ways": "setting known s", "told": "setting known",
+    },
+    "reading": {
+        "readings": "setting row e", "read": "setting row", "wrong": "setting row poly", "twins": "setting e",
+    },
+    "programs": {
+        "check_program": "setting program", "epochs": "program", "epoch_of": "program k", "input_rows": "program",
+        "output_rows": "program",
+    },
+    "plain": {"values": "setting program inputs", "shown": "setting program inputs"},
+    "coins": {"coins_of": "setting program", "places": "setting program"},
+}
+
+SETTING = ("setting", 11, 5, 2)
+ROWS = (
+    ("in", 1), ("in", 2), ("product", 0, 1), ("times", 3, 2), ("less", 3, 0), ("out", 4, 3), ("next",), ("kept", 4),
+    ("const", 2), ("sum", 7, 8), ("out", 9, 5),
+)
+PROGRAM = ("program", ROWS)
+CALLS = (
+    ("field", "is_prime", (97,)), ("field", "is_prime", (91,)), ("field", "inverse", (11, 4)),
+    ("field", "power", (11, 4, 99)),
+    ("polys", "value_at", (11, (1, 2, 3), 4)), ("polys", "through", (11, (3, 1, 2), (5, 5, 0))),
+    ("polys", "weights", (11, (3, 1, 2), 0)), ("polys", "veil", (11, (3, 1))),
+    ("polys", "added", (11, (9, 2), (3, 10))), ("polys", "scaled", (11, 5, (9, 2))),
+    ("sharing", "check_setting", (SETTING,)), ("sharing", "shares", (SETTING, 4, (1, 2))),
+    ("sharing", "ways", (SETTING, ((1, 2),), 3)), ("sharing", "told", (SETTING, ((1, 2), (3, 4), (5, 1)))),
+    ("sharing", "told", (SETTING, ((1, 2),))),
+    ("reading", "readings", (SETTING, (1, 2, 3, 4, 6), 2)), ("reading", "read", (SETTING, (1, 2, 3, 4, 6))),
+    ("reading", "read", (SETTING, (1, 2, 3, 4, 5))), ("reading", "wrong", (SETTING, (1, 2, 3, 4, 6), (0, 1, 0))),
+    ("reading", "twins", (SETTING, 2)), ("reading", "twins", (SETTING, 1)),
+    ("programs", "check_program", (SETTING, PROGRAM)), ("programs", "epochs", (PROGRAM,)),
+    ("programs", "epoch_of", (PROGRAM, 8)), ("programs", "input_rows", (PROGRAM,)),
+    ("programs", "output_rows", (PROGRAM,)), ("plain", "values", (SETTING, PROGRAM, (3, 4))),
+    ("plain", "shown", (SETTING, PROGRAM, (3, 4))), ("coins", "coins_of", (SETTING, PROGRAM)),
+    ("coins", "places", (SETTING, PROGRAM)),
+)
+
+
+def function_of(module, name):
+    return getattr(importlib.import_module("untold." + module), name)
+
+
+def is_plain(thing):
+    """Whether a thing is made of tuples, integers and None alone, without booleans."""
+    if isinstance(thing, tuple):
+        return all(is_plain(item) for item in thing)
+    return thing is None or type(thing) is int
+
+
+class Interface(unittest.TestCase):
+    def test_names_arguments_and_files(self):
+        for module, functions in INTERFACE.items():
+            for name, arguments in functions.items():
+                function = function_of(module, name)
+                self.assertTrue(inspect.isfunction(function), name)
+                self.assertEqual(function.__module__, "untold." + module, name)
+                self.assertEqual(list(inspect.signature(function).parameters), arguments.split(), name)
+
+    def test_each_function_is_called_below(self):
+        called = {(module, name) for module, name, _ in CALLS}
+        self.assertEqual(called, {(module, name) for module, names in INTERFACE.items() for name in names})
+
+
+class Values(unittest.TestCase):
+    def test_booleans_are_no_integers(self):
+        for module, name, arguments in CALLS:
+            answer = function_of(module, name)(*arguments)
+            if name == "is_prime":
+                self.assertIsInstance(answer, bool)
+            else:
+                self.assertTrue(is_plain(answer), (name, answer))
+
+    def test_the_checks_return_none(self):
+        self.assertIsNone(function_of("sharing", "check_setting")(SETTING))
+        self.assertIsNone(function_of("programs", "check_program")(SETTING, PROGRAM))
+
+    def test_same_arguments_same_answers(self):
+        first = [function_of(module, name)(*arguments) for module, name, arguments in CALLS]
+        second = [function_of(module, name)(*arguments) for module, name, arguments in reversed(CALLS)]
+        self.assertEqual(first, second[::-1])
+
+    def test_arguments_stay(self):
+        before = repr(CALLS)
+        for module, name, arguments in CALLS:
+            function_of(module, name)(*arguments)
+        self.assertEqual(repr(CALLS), before)
