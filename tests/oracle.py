@@ -1,6 +1,8 @@
 """What the tests hold the program against: the words of the document, tried one by one."""
 
+import random
 from itertools import combinations, product
+from math import prod
 
 
 def plain_value(p, poly, x):
@@ -26,3 +28,132 @@ def numbers(seed, p, many):
 def choices(some, most):
     """All choices of at most so many things."""
     return [choice for many in range(most + 1) for choice in combinations(some, many)]
+
+
+def plain_weights(p, n):
+    """The weights of the points 1 to n for 0, by their formula."""
+    found = []
+    for i in range(1, n + 1):
+        top = prod(-m for m in range(1, n + 1) if m != i)
+        bottom = prod(i - m for m in range(1, n + 1) if m != i)
+        found.append(top * pow(bottom, -1, p) % p)
+    return found
+
+
+def trace(setting, program, inputs, coins):
+    """For each row what happens in a run, by the words of c2: the coins drawn, the polynomials dealt, the shares."""
+    _, p, n, t = setting
+    every = range(1, n + 1)
+    weigh = plain_weights(p, n)
+    inputs, coins = iter(inputs), iter(coins)
+    rows = []
+    for row in program[1]:
+        word, *items = row
+        step = {"number": None, "coins": [], "dealt": [], "shares": None}
+        rows.append(step)
+        if word == "in":
+            step["number"] = next(inputs)
+            step["coins"] = [tuple(next(coins) for _ in range(t))]
+            step["dealt"] = [(step["number"], *step["coins"][0])]
+            step["shares"] = tuple(plain_value(p, step["dealt"][0], j) for j in every)
+        elif word == "const":
+            step["shares"] = (items[0],) * n
+        elif word == "times":
+            step["shares"] = tuple(items[0] * a % p for a in rows[items[1]]["shares"])
+        elif word in ("sum", "less"):
+            sign = {"sum": 1, "less": -1}[word]
+            a, b = (rows[item]["shares"] for item in items)
+            step["shares"] = tuple((a[j - 1] + sign * b[j - 1]) % p for j in every)
+        elif word in ("product", "kept"):
+            heads = [0] * n
+            if word == "product":
+                a, b = (rows[item]["shares"] for item in items)
+                heads = [a[i - 1] * b[i - 1] % p for i in every]
+            step["coins"] = [tuple(next(coins) for _ in range(t)) for _ in every]
+            step["dealt"] = [(heads[i - 1], *step["coins"][i - 1]) for i in every]
+            values = [[plain_value(p, poly, j) for poly in step["dealt"]] for j in every]
+            if word == "product":
+                step["shares"] = tuple(sum(w * x for w, x in zip(weigh, values[j - 1])) % p for j in every)
+            else:
+                step["shares"] = tuple((rows[items[0]]["shares"][j - 1] + sum(values[j - 1])) % p for j in every)
+    return rows
+
+
+def epochs_of(program):
+    """The epoch of each row."""
+    return [sum(row[0] == "next" for row in program[1][:k + 1]) for k in range(len(program[1]))]
+
+
+def plain_view(setting, program, inputs, coins, watchers):
+    """What watchers see, by the words of v2."""
+    p = setting[1]
+    rows = trace(setting, program, inputs, coins)
+    found = []
+    for row, step, epoch in zip(program[1], rows, epochs_of(program)):
+        watched = watchers[epoch]
+
+        def pieces(some):
+            return tuple(
+                step["coins"][i] if i + 1 in some else tuple(plain_value(p, poly, j) for j in some)
+                for i, poly in enumerate(step["dealt"])
+            )
+
+        own = () if step["shares"] is None else tuple(step["shares"][j - 1] for j in watched)
+        if row[0] == "in":
+            mine = row[1] in watched
+            found.append(("own", step["number"], step["coins"][0]) if mine else ("sent", own))
+        elif row[0] == "product":
+            found.append(pieces(watched))
+        elif row[0] == "kept":
+            found.append((pieces([j for j in watched if j in watchers[epoch - 1]]), own))
+        elif row[0] == "out" and row[2] in watched:
+            found.append(rows[row[1]]["shares"])
+        else:
+            found.append(())
+    return tuple(found)
+
+
+def some_program(seed, setting, many):
+    """A program of so many rows, or a few more, that hangs on the seed alone; all kinds of rows may stand in it."""
+    _, p, n, _ = setting
+    pick = random.Random(seed)
+    rows = [("in", pick.randint(1, n)), ("in", pick.randint(1, n))]
+    now, old, epoch = [0, 1], [], 0
+    while len(rows) < many:
+        word = pick.choice(("in", "const", "sum", "less", "product", "product", "times", "out", "next", "kept", "kept"))
+        if word == "next":
+            if epoch == 5 or len(now) < 2:
+                continue
+            rows.append(("next",))
+            epoch, old, now = epoch + 1, now, []
+            word = "kept"
+        if word == "kept":
+            if not old:
+                continue
+            rows.append(("kept", pick.choice(old)))
+        elif word == "in":
+            rows.append(("in", pick.randint(1, n)))
+        elif word == "const":
+            rows.append(("const", pick.randrange(p)))
+        elif word == "times":
+            rows.append(("times", pick.randrange(p), pick.choice(now)))
+        elif word == "out":
+            rows.append(("out", pick.choice(now), pick.randint(1, n)))
+            continue
+        else:
+            rows.append((word, pick.choice(now), pick.choice(now)))
+        now.append(len(rows) - 1)
+    return ("program", tuple(rows))
+
+
+def some_watchers(seed, setting, program, most):
+    """Watchers of at most so many parties in each epoch, that hang on the seed alone; often some of them stay."""
+    pick = random.Random(seed)
+    found = [tuple(sorted(pick.sample(range(1, setting[2] + 1), pick.randint(0, most))))]
+    for row in program[1]:
+        if row[0] == "next":
+            stay = pick.sample(found[-1], pick.randint(0, len(found[-1])))
+            others = [party for party in range(1, setting[2] + 1) if party not in found[-1]]
+            come = pick.sample(others, pick.randint(0, min(len(others), most - len(stay))))
+            found.append(tuple(sorted(stay + come)))
+    return tuple(found)

@@ -1,6 +1,7 @@
 """The form of the package's code, as far as a short test can see it."""
 
 import ast
+import builtins
 import pathlib
 import unittest
 
@@ -83,3 +84,28 @@ class Form(unittest.TestCase):
                     self.assertIn(node.func.id, BUILTINS | own, (path, node.lineno))
                 if isinstance(node, ast.Call) and isinstance(node.func, ast.Attribute):
                     self.assertIn(node.func.attr, METHODS | {"__init__"}, (path, node.lineno))
+
+    def test_no_local_name_is_that_of_an_import_or_a_builtin(self):
+        for path in files():
+            tree = nodes(path)
+            taken = {alias.name for node in tree if isinstance(node, ast.ImportFrom) for alias in node.names}
+            for node in tree:
+                name = node.arg if isinstance(node, ast.arg) else None
+                if isinstance(node, ast.Name) and isinstance(node.ctx, ast.Store):
+                    name = node.id
+                if isinstance(node, ast.FunctionDef) and not node.name.startswith("__"):
+                    name = node.name
+                if name is not None:
+                    self.assertNotIn(name, taken, (path, node.lineno))
+                    self.assertFalse(hasattr(builtins, name), (path, node.lineno, name))
+
+    def test_no_two_files_import_from_each_other(self):
+        imports = {}
+        for path in files():
+            sources = [node.module for node in nodes(path) if isinstance(node, ast.ImportFrom)]
+            imports[path.stem] = {source.split(".")[1] for source in sources if source.startswith("untold.")}
+        while imports:
+            free = [stem for stem, needed in imports.items() if not needed & set(imports)]
+            self.assertTrue(free, imports)
+            for stem in free:
+                del imports[stem]

@@ -22,6 +22,17 @@ INTERFACE = {
     },
     "plain": {"values": "setting program inputs", "shown": "setting program inputs"},
     "coins": {"coins_of": "setting program", "places": "setting program"},
+    "runs": {
+        "run": "setting program inputs coins", "polys_of": "setting shares", "sent": "setting program inputs coins",
+    },
+    "views": {
+        "check_watchers": "setting program watchers", "view": "setting program inputs coins watchers",
+        "agree": "setting program first second watchers",
+    },
+    "matching": {"matched": "setting program first second coins watchers"},
+    "still": {
+        "still": "setting program inputs watchers", "count_views": "setting program inputs watchers",
+    },
 }
 
 SETTING = ("setting", 11, 5, 2)
@@ -30,6 +41,10 @@ ROWS = (
     ("const", 2), ("sum", 7, 8), ("out", 9, 5),
 )
 PROGRAM = ("program", ROWS)
+COINS = tuple(k * k % 11 for k in range(24))
+WATCHERS = ((1, 3), (2, 3))
+# Few coins, for what tries all.
+LITTLE = (("setting", 5, 3, 1), ("program", (("in", 1), ("in", 2), ("sum", 0, 1), ("out", 2, 3))))
 CALLS = (
     ("field", "is_prime", (97,)), ("field", "is_prime", (91,)), ("field", "inverse", (11, 4)),
     ("field", "power", (11, 4, 99)),
@@ -47,7 +62,17 @@ CALLS = (
     ("programs", "output_rows", (PROGRAM,)), ("plain", "values", (SETTING, PROGRAM, (3, 4))),
     ("plain", "shown", (SETTING, PROGRAM, (3, 4))), ("coins", "coins_of", (SETTING, PROGRAM)),
     ("coins", "places", (SETTING, PROGRAM)),
+    ("runs", "run", (SETTING, PROGRAM, (3, 4), COINS)), ("runs", "sent", (SETTING, PROGRAM, (3, 4), COINS)),
+    ("runs", "polys_of", (SETTING, ((1, 2, 3, 4, 5), None, (6, 6, 6, 6, 6)))),
+    ("views", "check_watchers", (SETTING, PROGRAM, WATCHERS)),
+    ("views", "check_watchers", (SETTING, PROGRAM, [(1, 3), (True,)])),
+    ("views", "view", (SETTING, PROGRAM, (3, 4), COINS, WATCHERS)),
+    ("views", "agree", (SETTING, PROGRAM, (3, 4), (3, 5), WATCHERS)),
+    ("views", "agree", (SETTING, PROGRAM, (3, 4), (3, 5), ((), ()))),
+    ("matching", "matched", (SETTING, PROGRAM, (3, 4), (5, 6), COINS, ((), (2, 3)))),
+    ("still", "still", (*LITTLE, (1, 2), ((3,),))), ("still", "count_views", (*LITTLE, (1, 2), ((3,),))),
 )
+ANSWERS_YES_OR_NO = {"is_prime", "check_watchers", "agree"}
 
 
 def function_of(module, name):
@@ -55,10 +80,10 @@ def function_of(module, name):
 
 
 def is_plain(thing):
-    """Whether a thing is made of tuples, integers and None alone, without booleans."""
+    """Whether a thing is made of tuples, strings, integers and None alone, without booleans."""
     if isinstance(thing, tuple):
         return all(is_plain(item) for item in thing)
-    return thing is None or type(thing) is int
+    return thing is None or type(thing) in (int, str)
 
 
 class Interface(unittest.TestCase):
@@ -79,7 +104,7 @@ class Values(unittest.TestCase):
     def test_booleans_are_no_integers(self):
         for module, name, arguments in CALLS:
             answer = function_of(module, name)(*arguments)
-            if name == "is_prime":
+            if name in ANSWERS_YES_OR_NO:
                 self.assertIsInstance(answer, bool)
             else:
                 self.assertTrue(is_plain(answer), (name, answer))

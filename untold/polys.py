@@ -11,6 +11,11 @@ def value_at(p, poly, x):
     return total
 
 
+def values_at(p, poly, points):
+    """The values of a polynomial at the points."""
+    return tuple([value_at(p, poly, x) for x in points])
+
+
 def added(p, one, other):
     """The sum of two polynomials of equally many numbers."""
     return tuple([(a + b) % p for a, b in zip(one, other)])
@@ -19,6 +24,11 @@ def added(p, one, other):
 def scaled(p, c, poly):
     """c times a polynomial."""
     return tuple([c * number % p for number in poly])
+
+
+def combined(p, factors, rows):
+    """The sum of rows of equally many numbers, each times its factor."""
+    return tuple([sum([c * number for c, number in zip(factors, column)]) % p for column in zip(*rows)])
 
 
 def times_root(p, poly, root):

@@ -102,6 +102,17 @@ def epoch_of(program, k):
     return len([at for at in rows_of(program, "next") if at <= k])
 
 
+def row_epochs(program):
+    """A tuple with the epoch of each row, as epoch_of gives it."""
+    found = []
+    epoch = 0
+    for row in program[1]:
+        if row[0] == "next":
+            epoch += 1
+        found.append(epoch)
+    return tuple(found)
+
+
 def input_rows(program):
     """The indices of the rows in, ascending."""
     return rows_of(program, "in")

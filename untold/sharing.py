@@ -3,7 +3,7 @@
 from untold.errors import BadSetting
 from untold.field import is_prime
 from untold.kinds import is_whole
-from untold.polys import through, value_at
+from untold.polys import through, value_at, values_at, veil
 
 GREATEST_PRIME = 10007
 MOST_PARTIES = 9
@@ -28,10 +28,26 @@ def check_setting(setting):
         raise BadSetting("not a setting")
 
 
+def parties_of(setting):
+    """The parties 1 to n, which are the points that they stand for."""
+    return tuple(range(1, setting[2] + 1))
+
+
+def spread(setting, poly):
+    """The values of a polynomial at all parties."""
+    return values_at(setting[1], poly, parties_of(setting))
+
+
 def shares(setting, s, coins):
     """The shares of all parties of a number s, shared with coins."""
-    _, p, n, _ = setting
-    return tuple([value_at(p, (s, *coins), party) for party in range(1, n + 1)])
+    return spread(setting, (s, *coins))
+
+
+def veil_of(setting, watched):
+    """The veil of the watched parties and then the least other ones, t in all."""
+    others = [party for party in parties_of(setting) if party not in watched]
+    hidden_from = (*watched, *others)
+    return veil(setting[1], hidden_from[:setting[3]])
 
 
 def sharing_poly(setting, known):
