@@ -4,6 +4,9 @@ import random
 from itertools import combinations, product
 from math import prod
 
+from untold.plain import values
+from untold.views import agree
+
 
 def plain_value(p, poly, x):
     """The value of a polynomial at x, power by power."""
@@ -40,8 +43,11 @@ def plain_weights(p, n):
     return found
 
 
-def trace(setting, program, inputs, coins):
-    """For each row what happens in a run, by the words of c2: the coins drawn, the polynomials dealt, the shares."""
+def trace(setting, program, inputs, coins, triples=False):
+    """For each row what happens in a run, by the words of c2: the coins drawn, the polynomials dealt, the shares.
+
+    With triples, by those of b2: for a row product the shares of the triple and what is shown to all.
+    """
     _, p, n, t = setting
     every = range(1, n + 1)
     weigh = plain_weights(p, n)
@@ -64,6 +70,16 @@ def trace(setting, program, inputs, coins):
             sign = {"sum": 1, "less": -1}[word]
             a, b = (rows[item]["shares"] for item in items)
             step["shares"] = tuple((a[j - 1] + sign * b[j - 1]) % p for j in every)
+        elif word == "product" and triples:
+            a, b = (rows[item]["shares"] for item in items)
+            x, y = next(coins), next(coins)
+            polys = [(number, *[next(coins) for _ in range(t)]) for number in (x, y, x * y % p)]
+            xs, ys, both = (tuple(plain_value(p, poly, j) for j in every) for poly in polys)
+            a_less_x = tuple((a[j - 1] - xs[j - 1]) % p for j in every)
+            b_less_y = tuple((b[j - 1] - ys[j - 1]) % p for j in every)
+            d, e = (sum(w * share for w, share in zip(weigh, some)) for some in (a_less_x, b_less_y))
+            step["told"] = (xs, ys, both, a_less_x, b_less_y)
+            step["shares"] = tuple((both[j - 1] + d * ys[j - 1] + e * xs[j - 1] + d * e) % p for j in every)
         elif word in ("product", "kept"):
             heads = [0] * n
             if word == "product":
@@ -84,10 +100,10 @@ def epochs_of(program):
     return [sum(row[0] == "next" for row in program[1][:k + 1]) for k in range(len(program[1]))]
 
 
-def plain_view(setting, program, inputs, coins, watchers):
-    """What watchers see, by the words of v2."""
+def plain_view(setting, program, inputs, coins, watchers, triples=False):
+    """What watchers see, by the words of v2; with triples, by those of b3."""
     p = setting[1]
-    rows = trace(setting, program, inputs, coins)
+    rows = trace(setting, program, inputs, coins, triples)
     found = []
     for row, step, epoch in zip(program[1], rows, epochs_of(program)):
         watched = watchers[epoch]
@@ -102,6 +118,9 @@ def plain_view(setting, program, inputs, coins, watchers):
         if row[0] == "in":
             mine = row[1] in watched
             found.append(("own", step["number"], step["coins"][0]) if mine else ("sent", own))
+        elif row[0] == "product" and triples:
+            parts = [tuple(some[j - 1] for j in watched) for some in step["told"][:3]]
+            found.append((*parts, *step["told"][3:]) if watched else ())
         elif row[0] == "product":
             found.append(pieces(watched))
         elif row[0] == "kept":
@@ -156,4 +175,64 @@ def some_watchers(seed, setting, program, most):
             others = [party for party in range(1, setting[2] + 1) if party not in found[-1]]
             come = pick.sample(others, pick.randint(0, min(len(others), most - len(stay))))
             found.append(tuple(sorted(stay + come)))
+    return tuple(found)
+
+
+def similar_inputs(setting, program, first, watchers):
+    """Rows of inputs that agree with first (test_views.py tests agree): itself, and some that differ in one or two."""
+    p = setting[1]
+    gaps = (0, 1, p - 1, p // 2)
+    found = {first}
+    for some in choices(range(len(first)), 2):
+        for steps in product(gaps, repeat=len(some)):
+            other = list(first)
+            for at, step in zip(some, steps):
+                other[at] = (other[at] + step) % p
+            if agree(setting, program, first, tuple(other), watchers):
+                found.add(tuple(other))
+    return sorted(found)
+
+
+def plain_veil(setting, some):
+    """The numbers of the veil of watched parties and the least others, t in all, by multiplying out."""
+    _, p, n, t = setting
+    poly = [1]
+    for party in [*some, *[party for party in range(1, n + 1) if party not in some]][:t]:
+        # (1 - X / party) for each of them.
+        turn = -pow(party, -1, p)
+        poly = [(a + turn * b) % p for a, b in zip(poly + [0], [0] + poly)]
+    return poly
+
+
+def plain_matched(setting, program, first, second, coins, watchers, triples=False):
+    """The matching of coins, by the words of m1; with triples, by those of b4."""
+    _, p, n, _ = setting
+    steps = trace(setting, program, first, coins, triples)
+    gaps = [None if a is None else b - a
+            for a, b in zip(values(setting, program, first), values(setting, program, second))]
+    veils = [plain_veil(setting, some) for some in watchers]
+    drawn, found = iter(coins), []
+
+    def move(factor, poly):
+        found.extend([(next(drawn) + factor * number) % p for number in poly[1:]])
+
+    for k, (row, epoch) in enumerate(zip(program[1], epochs_of(program))):
+        veil = veils[epoch]
+        if row[0] == "in":
+            move(gaps[k], veil)
+        elif row[0] == "product" and triples:
+            x, y = next(drawn), next(drawn)
+            other_x, other_y = x + gaps[row[1]], y + gaps[row[2]]
+            found.extend([other_x % p, other_y % p])
+            for factor in (gaps[row[1]], gaps[row[2]], other_x * other_y - x * y):
+                move(factor, veil)
+        elif row[0] == "product":
+            for i, (a, b) in enumerate(zip(steps[row[1]]["shares"], steps[row[2]]["shares"]), start=1):
+                turn = plain_value(p, veil, i)
+                move((a + gaps[row[1]] * turn) * (b + gaps[row[2]] * turn) - a * b, veil)
+        elif row[0] == "kept":
+            both = [i for i in watchers[epoch] if i in watchers[epoch - 1]]
+            least = min(i for i in range(1, n + 1) if i not in both)
+            for i in range(1, n + 1):
+                move(gaps[row[1]] if i == least else 0, [a - b for a, b in zip(veil, veils[epoch - 1])])
     return tuple(found)

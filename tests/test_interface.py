@@ -33,6 +33,17 @@ INTERFACE = {
     "still": {
         "still": "setting program inputs watchers", "count_views": "setting program inputs watchers",
     },
+    "outputs": {"read_out": "setting program inputs coins lies"},
+    "seen": {"shares_seen": "setting program seen watchers", "opened": "setting program seen watchers"},
+    "triples": {
+        "triple_places": "setting program", "triple_coins_of": "setting program",
+        "triple_run": "setting program inputs coins", "triple_view": "setting program inputs coins watchers",
+        "triple_matched": "setting program first second coins watchers",
+    },
+    "dealing": {
+        "square": "setting s coins", "lines": "setting square", "agreeing": "setting lines", "core": "setting lines",
+        "square_of": "setting lines some", "veiled": "setting square d some",
+    },
 }
 
 SETTING = ("setting", 11, 5, 2)
@@ -43,6 +54,12 @@ ROWS = (
 PROGRAM = ("program", ROWS)
 COINS = tuple(k * k % 11 for k in range(24))
 WATCHERS = ((1, 3), (2, 3))
+SEEN = (
+    ("own", 3, (0, 1)), ("sent", (6, 2)), ((4, 9), (1, 2), (3, 1), (0, 0), (5, 5)), (), (), (6, 6, 6, 6, 6), (),
+    (((1,), (2,), (1, 3), (4,), (5,)), (2, 3)), (), (), (),
+)
+SQUARE = ((5, 1, 2), (1, 3, 4), (2, 4, 9))
+LINES = ((8, 8, 4), (4, 1, 3), (4, 6, 8), (8, 1, 9), (5, 5, 5))
 # Few coins, for what tries all.
 LITTLE = (("setting", 5, 3, 1), ("program", (("in", 1), ("in", 2), ("sum", 0, 1), ("out", 2, 3))))
 CALLS = (
@@ -71,6 +88,17 @@ CALLS = (
     ("views", "agree", (SETTING, PROGRAM, (3, 4), (3, 5), ((), ()))),
     ("matching", "matched", (SETTING, PROGRAM, (3, 4), (5, 6), COINS, ((), (2, 3)))),
     ("still", "still", (*LITTLE, (1, 2), ((3,),))), ("still", "count_views", (*LITTLE, (1, 2), ((3,),))),
+    ("outputs", "read_out", (SETTING, PROGRAM, (3, 4), COINS, ((5, 1, 0), (5, 2, 0), (10, 4, 7)))),
+    ("seen", "shares_seen", (SETTING, PROGRAM, SEEN, WATCHERS)), ("seen", "opened", (SETTING, PROGRAM, SEEN, WATCHERS)),
+    ("seen", "opened", (SETTING, ("program", (("const", 3),)), ((),), ((1, 2, 3),))),
+    ("triples", "triple_places", (SETTING, PROGRAM)), ("triples", "triple_coins_of", (SETTING, PROGRAM)),
+    ("triples", "triple_run", (SETTING, PROGRAM, (3, 4), COINS)),
+    ("triples", "triple_view", (SETTING, PROGRAM, (3, 4), COINS, WATCHERS)),
+    ("triples", "triple_matched", (SETTING, PROGRAM, (3, 4), (5, 6), COINS[:22], ((), (2, 3)))),
+    ("dealing", "square", (SETTING, 5, (1, 2, 3, 4, 9))), ("dealing", "lines", (SETTING, SQUARE)),
+    ("dealing", "agreeing", (SETTING, LINES)), ("dealing", "core", (SETTING, LINES)),
+    ("dealing", "square_of", (SETTING, LINES, (1, 2, 3))), ("dealing", "square_of", (SETTING, LINES, (1, 2, 3, 5))),
+    ("dealing", "veiled", (SETTING, SQUARE, 3, (2,))),
 )
 ANSWERS_YES_OR_NO = {"is_prime", "check_watchers", "agree"}
 

@@ -3,11 +3,12 @@
 import unittest
 from itertools import product
 
-from tests.oracle import choices, numbers, plain_value, some_program, some_watchers
-from untold.coins import coins_of, places
+from tests.oracle import (
+    choices, numbers, plain_matched, plain_value, similar_inputs, some_program, some_watchers,
+)
+from untold.coins import coins_of
 from untold.errors import BadState
 from untold.matching import matched
-from untold.plain import values
 from untold.programs import input_rows
 from untold.runs import polys_of, run
 from untold.views import agree, view
@@ -22,31 +23,6 @@ SETTINGS = [("setting", *rest) for rest in (
 
 def program(*rows):
     return ("program", rows)
-
-
-def agreeing(setting, rows, first, watchers):
-    """Other rows of inputs that agree with first: each that differs in one place or in two by some numbers."""
-    p = setting[1]
-    gaps = (0, 1, p - 1, p // 2)
-    found = {first}
-    for some in choices(range(len(first)), 2):
-        for steps in product(gaps, repeat=len(some)):
-            other = list(first)
-            for at, step in zip(some, steps):
-                other[at] = (other[at] + step) % p
-            if agree(setting, rows, first, tuple(other), watchers):
-                found.add(tuple(other))
-    return sorted(found)
-
-
-def plain_veil(p, points):
-    """The numbers of the polynomial that is 1 at 0 and 0 at the points, by multiplying out."""
-    poly = [1]
-    for x in points:
-        # (1 - X / x) for each point.
-        turn = -pow(x, -1, p)
-        poly = [(a + turn * b) % p for a, b in zip(poly + [0], [0] + poly)]
-    return poly
 
 
 class WorkedExample(unittest.TestCase):
@@ -81,46 +57,18 @@ class WorkedExample(unittest.TestCase):
         setting = ("setting", 7, 5, 2)
         rows = program(("in", 4), NEXT, ("kept", 0))
         coins = (0,) * 12
-        for watchers, party in ((((1, 2), (1, 3)), 2), (((1, 2), (2, 3)), 1), (((2, 3), (1, 3)), 1), (((1,), (1, 3)), 2)):
+        for watchers, party in (
+            (((1, 2), (1, 3)), 2), (((1, 2), (2, 3)), 1), (((2, 3), (1, 3)), 1), (((1,), (1, 3)), 2),
+        ):
             other = matched(setting, rows, (2,), (3,), coins, watchers)
             self.assertEqual([i for i in range(1, 6) if any(other[2 * i:2 * i + 2])], [party], watchers)
 
 
 class ByTheWords(unittest.TestCase):
     def hold(self, setting, rows, first, second, coins, watchers):
-        """The matching is what m1 tells, worked out row by row."""
-        _, p, n, t = setting
-        veils = []
-        for some in watchers:
-            points = [*some, *[party for party in range(1, n + 1) if party not in some]][:t]
-            veils.append(plain_veil(p, points))
-        gaps = [None if a is None else b - a
-                for a, b in zip(values(setting, rows, first), values(setting, rows, second))]
-        found = run(setting, rows, first, coins)
-        right = list(coins)
-        epoch = 0
-
-        def shift(parts, factor, poly):
-            for place, number in zip(parts, poly[1:]):
-                right[place] = (right[place] + factor * number) % p
-
-        for k, (row, own) in enumerate(zip(rows[1], places(setting, rows))):
-            epoch += row == NEXT
-            poly = veils[epoch]
-            if row[0] == "in":
-                shift(own[0], gaps[k], poly)
-            if row[0] == "product":
-                for i in range(1, n + 1):
-                    a, b = found[row[1]][i - 1], found[row[2]][i - 1]
-                    turn = plain_value(p, poly, i)
-                    new = (a + gaps[row[1]] * turn) * (b + gaps[row[2]] * turn)
-                    shift(own[i - 1], new - a * b, poly)
-            if row[0] == "kept":
-                both = [i for i in watchers[epoch] if i in watchers[epoch - 1]]
-                least = min(i for i in range(1, n + 1) if i not in both)
-                shift(own[least - 1], gaps[row[1]], [a - b for a, b in zip(poly, veils[epoch - 1])])
+        right = plain_matched(setting, rows, first, second, coins, watchers)
         answer = matched(setting, rows, first, second, coins, watchers)
-        self.assertEqual(answer, tuple(right), (setting, rows, first, second, watchers))
+        self.assertEqual(answer, right, (setting, rows, first, second, watchers))
         self.assertIsInstance(answer, tuple)
 
     def test_each_kind(self):
@@ -130,7 +78,7 @@ class ByTheWords(unittest.TestCase):
         )
         for watchers in product(choices((1, 2, 3), 1), repeat=2):
             first, coins = (2, 3, 5), numbers(7, 7, coins_of(SETTING, rows))
-            for second in agreeing(SETTING, rows, first, watchers):
+            for second in similar_inputs(SETTING, rows, first, watchers):
                 self.hold(SETTING, rows, first, second, coins, watchers)
 
     def test_some_programs(self):
@@ -140,7 +88,7 @@ class ByTheWords(unittest.TestCase):
                 watchers = some_watchers(seed, setting, rows, setting[3])
                 first = numbers(seed, setting[1], len(input_rows(rows)))
                 coins = numbers(seed + 3, setting[1], coins_of(setting, rows))
-                for second in agreeing(setting, rows, first, watchers)[:6]:
+                for second in similar_inputs(setting, rows, first, watchers)[:6]:
                     self.hold(setting, rows, first, second, coins, watchers)
 
 
@@ -194,7 +142,7 @@ class MainTheorem(unittest.TestCase):
                 watchers = some_watchers(seed, setting, rows, setting[3])
                 first = numbers(seed, setting[1], len(input_rows(rows)))
                 coins = numbers(seed + 9, setting[1], coins_of(setting, rows))
-                for second in agreeing(setting, rows, first, watchers)[:8]:
+                for second in similar_inputs(setting, rows, first, watchers)[:8]:
                     others += second != first
                     self.hold(setting, rows, first, second, coins, watchers)
         self.assertGreater(others, 500)
@@ -208,7 +156,7 @@ class MainTheorem(unittest.TestCase):
         coins = numbers(1, 7, coins_of(setting, rows))
         moves = choices((1, 2, 3, 5), 2)
         for watchers in product(moves, moves, ((), (1, 2), (2, 3), (4,))):
-            for second in agreeing(setting, rows, (3, 4), watchers)[:3]:
+            for second in similar_inputs(setting, rows, (3, 4), watchers)[:3]:
                 self.hold(setting, rows, (3, 4), second, coins, watchers)
 
     def test_one_epoch_alone_gives_away_nothing_of_others(self):
@@ -231,7 +179,7 @@ class MainTheorem(unittest.TestCase):
                 watchers = some_watchers(seed, setting, rows, setting[3])
                 first = numbers(seed, p, len(input_rows(rows)))
                 coins = numbers(seed, p, coins_of(setting, rows))
-                for second in agreeing(setting, rows, first, watchers)[-2:]:
+                for second in similar_inputs(setting, rows, first, watchers)[-2:]:
                     other = matched(setting, rows, first, second, coins, watchers)
                     old = polys_of(setting, run(setting, rows, first, coins))
                     new = polys_of(setting, run(setting, rows, second, other))

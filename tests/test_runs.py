@@ -59,7 +59,8 @@ class EachKind(unittest.TestCase):
         self.hold(rows, (2, 3), (1, 2), shares)
 
     def test_product(self):
-        # The products of the shares are 1, 0, 3; with the coins 1, 2, 5 the parties deal (2, 3, 4), (2, 4, 6), (1, 6, 4).
+        # The products of the shares are 1, 0, 3; with the coins 1, 2, 5 the parties deal 2, 3, 4 and 2, 4, 6 and
+        # 1, 6, 4.
         rows = program(("in", 1), ("in", 2), ("product", 0, 1))
         self.hold(rows, (2, 3), (1, 2, 1, 2, 5), ((3, 4, 5), (5, 0, 2), (1, 3, 5)))
 
@@ -125,7 +126,7 @@ class Runs(unittest.TestCase):
     def test_a_product_of_products(self):
         rows = program(("in", 1), ("product", 0, 0), ("product", 1, 1), ("product", 2, 1), ("out", 3, 1))
         for setting in SETTINGS:
-            _, p, n, _ = setting
+            p = setting[1]
             for seed in range(10):
                 coins = numbers(seed, p, coins_of(setting, rows))
                 poly = polys_of(setting, run(setting, rows, (seed % p,), coins))[3]

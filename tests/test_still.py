@@ -154,7 +154,9 @@ class Bounds(unittest.TestCase):
         self.assertEqual(still(("setting", 11, 9, 4), rows, (3,), ((1,),)), ((3,),))
 
     def test_count_views(self):
-        for p, n, t, most in ((5, 3, 1, 6), (7, 3, 1, 5), (11, 5, 2, 4), (139, 3, 1, 2), (149, 3, 1, 1), (10007, 3, 1, 1)):
+        for p, n, t, most in (
+            (5, 3, 1, 6), (7, 3, 1, 5), (11, 5, 2, 4), (139, 3, 1, 2), (149, 3, 1, 1), (10007, 3, 1, 1),
+        ):
             setting = ("setting", p, n, t)
             rows = program(*[("in", 1)] * (most // t))
             found = count_views(setting, rows, (0,) * (most // t), ((),))

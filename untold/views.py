@@ -4,7 +4,7 @@ from untold.coins import coins_by_row, places
 from untold.kinds import is_whole
 from untold.plain import shown
 from untold.polys import values_at
-from untold.programs import epochs, input_rows, row_epochs
+from untold.programs import epochs, input_rows, row_epochs, rows_of
 from untold.runs import dealt, numbers_by_row, run
 
 
@@ -78,9 +78,8 @@ def view(setting, program, inputs, coins, watchers):
     found = run(setting, program, inputs, coins)
     here = row_watchers(program, watchers)
     items = items_but_products(setting, program, inputs, own, found, watchers)
-    for k, row in enumerate(program[1]):
-        if row[0] == "product":
-            items[k] = dealt_item(setting[1], dealt(setting, row, found, own[k]), here[k])
+    for k in rows_of(program, "product"):
+        items[k] = dealt_item(setting[1], dealt(setting, program[1][k], found, own[k]), here[k])
     return tuple(items)
 
 

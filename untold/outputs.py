@@ -1,0 +1,14 @@
+"""Outputs: what is read where some parties send other numbers than their shares."""
+
+from untold.reading import read
+from untold.runs import sent
+
+
+def read_out(setting, program, inputs, coins, lies):
+    """Triples (index, party, number) for the rows out: what is read behind the lies, None where nothing can be."""
+    lied = {(k, party): number for k, party, number in lies}
+    found = []
+    for k, reader, row in sent(setting, program, inputs, coins):
+        heard = tuple([lied.get((k, party), share) for party, share in enumerate(row, start=1)])
+        found.append((k, reader, read(setting, heard)))
+    return tuple(found)
