@@ -7,6 +7,9 @@ from math import prod
 from untold.plain import values
 from untold.views import agree
 
+# The rows of which all items are wires.
+NAMING = ("sum", "less", "product", "kept")
+
 
 def plain_value(p, poly, x):
     """The value of a polynomial at x, power by power."""
@@ -236,3 +239,97 @@ def plain_matched(setting, program, first, second, coins, watchers, triples=Fals
             for i in range(1, n + 1):
                 move(gaps[row[1]] if i == least else 0, [a - b for a, b in zip(veil, veils[epoch - 1])])
     return tuple(found)
+
+
+def plain_letters(setting, program, inputs, coins):
+    """The letters of a run, by the words of d1."""
+    _, p, n, _ = setting
+    rows = trace(setting, program, inputs, coins)
+    found = []
+    for k, (row, step) in enumerate(zip(program[1], rows)):
+        for i in range(1, n + 1):
+            for j in range(1, n + 1):
+                if i == j:
+                    continue
+                if row[0] == "in" and row[1] == i:
+                    found.append(("letter", k, i, j, step["shares"][j - 1]))
+                elif row[0] in ("product", "kept"):
+                    found.append(("letter", k, i, j, plain_value(p, step["dealt"][i - 1], j)))
+                elif row[0] == "out" and row[2] == j:
+                    found.append(("letter", k, i, j, rows[row[1]]["shares"][i - 1]))
+    return tuple(found)
+
+
+def plain_own(setting, program, inputs, coins, party):
+    """The own inputs and the own coins of a party, by the words of d2."""
+    own_inputs, own_coins = [], []
+    for row, step in zip(program[1], trace(setting, program, inputs, coins)):
+        if row == ("in", party):
+            own_inputs.append(step["number"])
+            own_coins.extend(step["coins"][0])
+        elif row[0] in ("product", "kept"):
+            own_coins.extend(step["coins"][party - 1])
+    return tuple(own_inputs), tuple(own_coins)
+
+
+def has_and_made(setting, program, party, inputs, coins, took):
+    """What a party with these inputs, coins and letters has, made and read, by the words of d3, all over again."""
+    _, p, n, t = setting
+    got = {(k, i): x for _, k, i, _, x in took}
+    others = [i for i in range(1, n + 1) if i != party]
+    weigh = plain_weights(p, n)
+    inputs, coins = iter(inputs), iter(coins)
+    shares, made, read = [], [], []
+    for k, row in enumerate(program[1]):
+        word, *items = row
+        wires = {"times": items[1:], "out": items[:1]}.get(word, items if word in NAMING else [])
+        able = all(shares[a] is not None for a in wires)
+        share, own = None, None
+        if row == ("in", party) or word in ("product", "kept"):
+            drawn = [next(coins) for _ in range(t)]
+        if word == "in":
+            if items[0] == party:
+                own = (next(inputs), *drawn)
+                share = plain_value(p, own, party)
+            else:
+                share = got.get((k, items[0]))
+        elif word == "const":
+            share = items[0]
+        elif able and word in ("sum", "less"):
+            share = (shares[items[0]] + {"sum": 1, "less": -1}[word] * shares[items[1]]) % p
+        elif able and word == "times":
+            share = items[0] * shares[items[1]] % p
+        elif able and word in ("product", "kept"):
+            own = ((shares[items[0]] * shares[items[1]] % p if word == "product" else 0), *drawn)
+            if all((k, i) in got for i in others):
+                pieces = [plain_value(p, own, party) if i == party else got[(k, i)] for i in range(1, n + 1)]
+                if word == "product":
+                    share = sum(w * x for w, x in zip(weigh, pieces)) % p
+                else:
+                    share = (shares[items[0]] + sum(pieces)) % p
+        elif able and word == "out" and items[1] != party:
+            made.append(("letter", k, party, items[1], shares[items[0]]))
+        elif able and word == "out" and all((k, i) in got for i in others):
+            row_read = [shares[items[0]] if i == party else got[(k, i)] for i in range(1, n + 1)]
+            read.append((k, plain_read(setting, row_read)))
+        if own is not None:
+            made.extend([("letter", k, party, j, plain_value(p, own, j)) for j in others])
+        shares.append(share)
+    return tuple(shares), tuple(made), tuple(read)
+
+
+def plain_read(setting, row):
+    """The number that a row is read as with (n - t - 1) // 2 wrong shares, None if none, by interpolation."""
+    _, p, n, t = setting
+    for some in combinations(range(1, n + 1), t + 1):
+        def value(x):
+            total = 0
+            for i in some:
+                top = prod(x - m for m in some if m != i)
+                bottom = prod(i - m for m in some if m != i)
+                total += row[i - 1] * top * pow(bottom, -1, p)
+            return total % p
+
+        if sum(value(i) != row[i - 1] for i in range(1, n + 1)) <= (n - t - 1) // 2:
+            return value(0)
+    return None

@@ -10,7 +10,8 @@ BUILTINS = {
     "len", "range", "enumerate", "zip", "min", "max", "sum", "abs", "sorted", "reversed", "int", "str", "bool",
     "list", "tuple", "dict", "set", "isinstance", "ord", "repr", "any", "all", "divmod",
 }
-METHODS = {"append", "extend", "get", "items", "keys", "values", "join", "split", "pop", "index", "count"}
+METHODS = {"append", "extend", "get", "items", "keys", "values", "join", "split", "pop", "index", "count", "replace",
+           "startswith"}
 LIBRARY = {"heapq", "math", "itertools", "collections"}
 STATEMENTS = (
     ast.Assign, ast.AugAssign, ast.If, ast.While, ast.For, ast.Return, ast.Break, ast.Continue, ast.Pass, ast.Raise,
@@ -75,6 +76,11 @@ class Form(unittest.TestCase):
                     self.assertNotIn("%", node.value, path)
 
     def test_calls(self):
+        methods = METHODS | {"__init__"}
+        for path in files():
+            for one in nodes(path):
+                if isinstance(one, ast.ClassDef):
+                    methods |= {node.name for node in one.body if isinstance(node, ast.FunctionDef)}
         for path in files():
             tree = nodes(path)
             own = {node.name for node in tree if isinstance(node, (ast.FunctionDef, ast.ClassDef))}
@@ -83,7 +89,7 @@ class Form(unittest.TestCase):
                 if isinstance(node, ast.Call) and isinstance(node.func, ast.Name):
                     self.assertIn(node.func.id, BUILTINS | own, (path, node.lineno))
                 if isinstance(node, ast.Call) and isinstance(node.func, ast.Attribute):
-                    self.assertIn(node.func.attr, METHODS | {"__init__"}, (path, node.lineno))
+                    self.assertIn(node.func.attr, methods, (path, node.lineno))
 
     def test_no_local_name_is_that_of_an_import_or_a_builtin(self):
         for path in files():

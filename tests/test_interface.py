@@ -4,6 +4,9 @@ import importlib
 import inspect
 import unittest
 
+from untold.desks import Desk
+from untold.parties import Party
+
 INTERFACE = {
     "field": {"is_prime": "n", "inverse": "p a", "power": "p a k"},
     "polys": {
@@ -44,6 +47,42 @@ INTERFACE = {
         "square": "setting s coins", "lines": "setting square", "agreeing": "setting lines", "core": "setting lines",
         "square_of": "setting lines some", "veiled": "setting square d some",
     },
+    "unseen": {
+        "paper": "setting program first second coins watchers", "judge": "setting program watchers thing",
+    },
+    "words": {"words_of": "line number"},
+    "sheets": {"compile_sheet": "setting text"},
+    "programtext": {"format_program": "program", "read_program": "setting text"},
+    "letters": {
+        "sends": "setting program k i j", "letters_of": "setting program inputs coins",
+        "own_inputs": "program inputs party", "own_coins": "setting program coins party",
+    },
+    "parties": {"carried": "setting program inputs coins order", "reached": "setting program lost"},
+    "papers": {
+        "write_paper": "party", "read_paper": "setting program text", "seen": "setting program papers watchers",
+    },
+    "costs": {
+        "many_letters": "setting program", "clock": "setting program", "rounds": "setting program",
+        "chain": "setting program",
+    },
+    "desks": {"replayed": "setting program inputs coins log"},
+}
+# For each class its file, the arguments of what stands in its own body, and its properties.
+CLASSES = {
+    Party: (
+        "parties",
+        {"__init__": "setting program number inputs coins", "take": "letter", "branch": "", "__eq__": "other"},
+        "number inputs coins took shares made read",
+    ),
+    Desk: (
+        "desks",
+        {
+            "__init__": "setting program inputs coins", "parties": "", "hand": "place", "hold": "place",
+            "lose": "place",
+            "lie": "place x", "turn": "", "undo": "", "report": "", "branch": "", "__eq__": "other",
+        },
+        "on_the_way log done",
+    ),
 }
 
 SETTING = ("setting", 11, 5, 2)
@@ -60,6 +99,8 @@ SEEN = (
 )
 SQUARE = ((5, 1, 2), (1, 3, 4), (2, 4, 9))
 LINES = ((8, 8, 4), (4, 1, 3), (4, 6, 8), (8, 1, 9), (5, 5, 5))
+PARTY = Party(SETTING, PROGRAM, 1, (3,), (1, 2, 3, 4, 5, 6))
+PARTY.take(("letter", 1, 2, 1, 7))
 # Few coins, for what tries all.
 LITTLE = (("setting", 5, 3, 1), ("program", (("in", 1), ("in", 2), ("sum", 0, 1), ("out", 2, 3))))
 CALLS = (
@@ -99,8 +140,25 @@ CALLS = (
     ("dealing", "agreeing", (SETTING, LINES)), ("dealing", "core", (SETTING, LINES)),
     ("dealing", "square_of", (SETTING, LINES, (1, 2, 3))), ("dealing", "square_of", (SETTING, LINES, (1, 2, 3, 5))),
     ("dealing", "veiled", (SETTING, SQUARE, 3, (2,))),
+    ("unseen", "paper", (SETTING, PROGRAM, (3, 4), (5, 6), COINS, ((), (2, 3)))),
+    ("unseen", "judge", (SETTING, PROGRAM, WATCHERS, ("unseen", (3, 4), (3, 4), COINS, COINS))),
+    ("unseen", "judge", (SETTING, PROGRAM, WATCHERS, ["unseen", (3, True), None])),
+    ("words", "words_of", ("show (a+2) to 3", 4)), ("words", "words_of", ("", 1)),
+    ("sheets", "compile_sheet", (SETTING, "a = input 1\nb = -a * (2 + a)\nshow b to 2\nnext a\nc = a - 1 * 2\n")),
+    ("programtext", "format_program", (PROGRAM,)), ("programtext", "read_program", (SETTING,
+    "w0 = input 1\nshow w0 to 2")),
+    ("letters", "sends", (SETTING, PROGRAM, 0, 1, 2)), ("letters", "sends", (SETTING, PROGRAM, 0, 2, 1)),
+    ("letters", "letters_of", (SETTING, PROGRAM, (3, 4), COINS)), ("letters", "own_inputs", (PROGRAM, (3, 4), 2)),
+    ("letters", "own_coins", (SETTING, PROGRAM, COINS, 2)),
+    ("parties", "carried", (SETTING, PROGRAM, (3, 4), COINS, (3, 1, 4))),
+    ("parties", "reached", (SETTING, PROGRAM, ((2, 1, 3), (7, 7, 7)))), ("papers", "write_paper", (PARTY,)),
+    ("papers", "read_paper", (SETTING, PROGRAM, "party 3\ninputs\ncoins 1 2 3 4\ngot 0 1 5\n")),
+    ("papers", "seen", (SETTING, PROGRAM, (), ((), ()))), ("costs", "many_letters", (SETTING, PROGRAM)),
+    ("costs", "clock", (SETTING, PROGRAM)), ("costs", "rounds", (SETTING, PROGRAM)),
+    ("costs", "chain", (SETTING, PROGRAM)),
+    ("desks", "replayed", (SETTING, PROGRAM, (3, 4), COINS, [("hand", 3), ("lie", 0, 7), ("turn",)])),
 )
-ANSWERS_YES_OR_NO = {"is_prime", "check_watchers", "agree"}
+ANSWERS_YES_OR_NO = {"is_prime", "check_watchers", "agree", "judge", "sends"}
 
 
 def function_of(module, name):
@@ -108,10 +166,10 @@ def function_of(module, name):
 
 
 def is_plain(thing):
-    """Whether a thing is made of tuples, strings, integers and None alone, without booleans."""
+    """Whether a thing is made of tuples, strings, integers, None, parties and desks alone, without booleans."""
     if isinstance(thing, tuple):
         return all(is_plain(item) for item in thing)
-    return thing is None or type(thing) in (int, str)
+    return thing is None or type(thing) in (int, str, Party, Desk)
 
 
 class Interface(unittest.TestCase):
@@ -122,6 +180,18 @@ class Interface(unittest.TestCase):
                 self.assertTrue(inspect.isfunction(function), name)
                 self.assertEqual(function.__module__, "untold." + module, name)
                 self.assertEqual(list(inspect.signature(function).parameters), arguments.split(), name)
+
+    def test_classes(self):
+        for one, (module, methods, properties) in CLASSES.items():
+            self.assertEqual(one.__module__, "untold." + module)
+            for name, arguments in methods.items():
+                self.assertTrue(inspect.isfunction(vars(one)[name]), name)
+                found = list(inspect.signature(vars(one)[name]).parameters)
+                self.assertEqual(found, ["self", *arguments.split()], name)
+            for name in properties.split():
+                self.assertIsInstance(vars(one)[name], property, name)
+                self.assertIsNone(vars(one)[name].fset, name)
+            self.assertIsNone(one.__hash__)
 
     def test_each_function_is_called_below(self):
         called = {(module, name) for module, name, _ in CALLS}
@@ -147,7 +217,8 @@ class Values(unittest.TestCase):
         self.assertEqual(first, second[::-1])
 
     def test_arguments_stay(self):
-        before = repr(CALLS)
+        before, party = repr(CALLS), PARTY.branch()
         for module, name, arguments in CALLS:
             function_of(module, name)(*arguments)
         self.assertEqual(repr(CALLS), before)
+        self.assertEqual((PARTY, PARTY.took), (party, party.took))

@@ -50,6 +50,11 @@ def items_of(row, role):
     return [x for x, own in zip(row[1:], SHAPES[row[0]]) if own == role]
 
 
+def named(row):
+    """The wires that a row names."""
+    return items_of(row, "wire") + items_of(row, "old")
+
+
 def is_wire(wires, a, epoch):
     """Whether a is a wire of an epoch; wires has for each row ahead the epoch of its wire, or None."""
     return 0 <= a < len(wires) and wires[a] == epoch

@@ -11,28 +11,32 @@ def wrong(setting, row, poly):
     return tuple([party for party, share in enumerate(row, start=1) if value_at(p, poly, party) != share])
 
 
-def candidates(setting, row, many):
-    """The polynomials through each choice of so many shares of the row."""
-    p = setting[1]
-    found = []
-    for some in combinations(range(len(row)), many):
-        points = tuple([k + 1 for k in some])
-        found.append(through(p, points, tuple([row[k] for k in some])))
-    return found
+def choices(n, many):
+    """All choices of so many of the places of n shares."""
+    return list(combinations(range(n), many))
+
+
+def poly_at(setting, row, some):
+    """The polynomial through the shares of the row at some places."""
+    return through(setting[1], tuple([k + 1 for k in some]), tuple([row[k] for k in some]))
 
 
 def readings(setting, row, e):
     """All polynomials as which the row is read with at most e wrong shares, ascending."""
     # With e at most n - t - 1 at least t + 1 shares are right, and they alone tell the polynomial.
-    polys = candidates(setting, row, setting[3] + 1)
+    polys = [poly_at(setting, row, some) for some in choices(len(row), setting[3] + 1)]
     return tuple(sorted({poly for poly in polys if len(wrong(setting, row, poly)) <= e}))
 
 
 def read(setting, row):
     """The number that the row is read as with (n - t - 1) // 2 wrong shares, or None."""
     _, _, n, t = setting
-    polys = readings(setting, row, (n - t - 1) // 2)
-    return polys[0][0] if polys else None
+    # With so few wrong shares no two polynomials fit, so the first that does is the only one.
+    for some in choices(n, t + 1):
+        poly = poly_at(setting, row, some)
+        if len(wrong(setting, row, poly)) <= (n - t - 1) // 2:
+            return poly[0]
+    return None
 
 
 def twins(setting, e):
