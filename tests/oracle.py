@@ -4,7 +4,10 @@ import random
 from itertools import combinations, product
 from math import prod
 
+from untold.coins import coins_of
+from untold.parties import Party
 from untold.plain import values
+from untold.programs import input_rows
 from untold.views import agree
 
 # The rows of which all items are wires.
@@ -333,3 +336,16 @@ def plain_read(setting, row):
         if sum(value(i) != row[i - 1] for i in range(1, n + 1)) <= (n - t - 1) // 2:
             return value(0)
     return None
+
+
+def some_run(seed, setting, many):
+    """A program of so many rows, or a few more, with its inputs and coins, that hang on the seed alone."""
+    program = some_program(seed, setting, many)
+    inputs = numbers(seed, setting[1], len(input_rows(program)))
+    return program, inputs, numbers(seed + 7, setting[1], coins_of(setting, program))
+
+
+def fresh(setting, program, inputs, coins):
+    """The parties of a run without any letters."""
+    every = range(1, setting[2] + 1)
+    return [Party(setting, program, i, *plain_own(setting, program, inputs, coins, i)) for i in every]

@@ -2,11 +2,9 @@
 
 import unittest
 
-from tests.oracle import numbers, plain_letters, plain_own, some_program
+from tests.oracle import fresh, numbers, plain_letters, some_run
 from untold.coins import coins_of
 from untold.costs import chain, clock, many_letters, rounds
-from untold.parties import Party
-from untold.programs import input_rows
 
 SETTING = ("setting", 7, 3, 1)
 NEXT = ("next",)
@@ -17,19 +15,6 @@ EACH_KIND = ("program", (
     ("in", 1), ("in", 2), ("const", 5), ("sum", 0, 2), ("less", 3, 1), ("times", 3, 4), ("product", 5, 3),
     ("out", 6, 1), ("out", 5, 2), NEXT, ("kept", 6), ("kept", 3), ("product", 10, 11), ("out", 12, 3),
 ))
-
-
-def case(setting, seed, many):
-    """A program with its inputs and coins that hang on the seed alone."""
-    program = some_program(seed, setting, many)
-    inputs = numbers(seed, setting[1], len(input_rows(program)))
-    return program, inputs, numbers(seed + 7, setting[1], coins_of(setting, program))
-
-
-def fresh(setting, program, inputs, coins):
-    """The parties of a run without any letters."""
-    every = range(1, setting[2] + 1)
-    return [Party(setting, program, i, *plain_own(setting, program, inputs, coins, i)) for i in every]
 
 
 def in_rounds(setting, program, inputs, coins):
@@ -77,7 +62,7 @@ class ManyLetters(unittest.TestCase):
     def test_they_are_the_letters_of_a_run(self):
         for setting in SETTINGS:
             for seed in range(20):
-                program, inputs, coins = case(setting, seed, 3 + seed)
+                program, inputs, coins = some_run(seed, setting, 3 + seed)
                 self.assertEqual(many_letters(setting, program), len(plain_letters(setting, program, inputs, coins)))
 
 
@@ -120,7 +105,7 @@ class Clock(unittest.TestCase):
     def test_runs_in_rounds(self):
         for setting in SETTINGS:
             for seed in range(30):
-                program, inputs, coins = case(setting, seed, 3 + seed)
+                program, inputs, coins = some_run(seed, setting, 3 + seed)
                 right, many = in_rounds(setting, program, inputs, coins)
                 self.assertEqual(clock(setting, program), right, program)
                 self.assertEqual(rounds(setting, program), many, program)
@@ -168,12 +153,12 @@ class Chain(unittest.TestCase):
     def test_some_programs(self):
         for setting in SETTINGS[:6]:
             for seed in range(20):
-                self.hold(setting, *case(setting, seed, 3 + seed))
+                self.hold(setting, *some_run(seed, setting, 3 + seed))
 
     def test_no_order_ends_a_chain_sooner(self):
         # Each letter of the chain is made only behind the taking of the one ahead, in whatever order all others come.
         for seed in range(6):
-            program, inputs, coins = case(SETTING, seed, 10)
+            program, inputs, coins = some_run(seed, SETTING, 10)
             for ahead, letter in zip(chain(SETTING, program), chain(SETTING, program)[1:]):
                 parties = fresh(SETTING, program, inputs, coins)
                 way = [new for party in parties for new in party.made]

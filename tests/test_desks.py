@@ -3,14 +3,13 @@
 import random
 import unittest
 
-from tests.oracle import has_and_made, numbers, plain_letters, plain_own, plain_read, some_program
-from untold.coins import coins_of
+from tests.oracle import has_and_made, plain_letters, plain_own, plain_read, some_run
 from untold.costs import rounds
 from untold.desks import Desk, replayed
 from untold.errors import BadEntry, BadState
 from untold.parties import Party, carried
 from untold.plain import shown
-from untold.programs import input_rows, output_rows
+from untold.programs import output_rows
 
 SETTING = ("setting", 7, 3, 1)
 NEXT = ("next",)
@@ -28,13 +27,6 @@ BEGINNING = (L012, L013, L121, L123)
 SETTINGS = [("setting", *rest) for rest in (
     (2, 1, 0), (3, 2, 0), (5, 3, 1), (7, 5, 1), (7, 5, 2), (11, 6, 2), (11, 9, 4),
 )]
-
-
-def case(setting, seed, many):
-    """A run that hangs on the seed alone."""
-    program = some_program(seed, setting, many)
-    inputs = numbers(seed, setting[1], len(input_rows(program)))
-    return setting, program, inputs, numbers(seed + 7, setting[1], coins_of(setting, program))
 
 
 def some_deed(pick, desk, p):
@@ -241,7 +233,7 @@ class Deeds(Desks):
         for setting in SETTINGS:
             for seed in range(6):
                 pick = random.Random(seed)
-                run = case(setting, seed, 4 + 2 * seed)
+                run = (setting, *some_run(seed, setting, 4 + 2 * seed))
                 desk, right, log = Desk(*run), ByTheWords(*run), []
                 for _ in range(25):
                     deed = some_deed(pick, desk, setting[1])
@@ -299,7 +291,7 @@ class Undo(Desks):
         pick = random.Random(11)
         for setting in SETTINGS[2:]:
             for seed in range(4):
-                run = case(setting, seed, 8)
+                run = (setting, *some_run(seed, setting, 8))
                 desk, states = Desk(*run), []
                 for _ in range(40):
                     if states and pick.random() < 0.35:
@@ -407,7 +399,7 @@ class Branches(Desks):
     def test_some_branches(self):
         pick = random.Random(7)
         for setting in SETTINGS[2:5]:
-            desks = [Desk(*case(setting, 3, 9))]
+            desks = [Desk(setting, *some_run(3, setting, 9))]
             for _ in range(30):
                 desk = pick.choice(desks)
                 states = [self.state(other) for other in desks]
@@ -438,7 +430,7 @@ class Replayed(Desks):
     def test_what_was_taken_back_is_not_replayed(self):
         for setting in SETTINGS:
             pick = random.Random(setting[2])
-            run = case(setting, 5, 10)
+            run = (setting, *some_run(5, setting, 10))
             desk = Desk(*run)
             for _ in range(40):
                 do(desk, some_deed(pick, desk, setting[1])) if pick.random() < 0.8 else desk.undo()
@@ -528,7 +520,7 @@ class Reports(Desks):
         for setting in SETTINGS:
             for seed in range(6):
                 pick = random.Random(seed)
-                run = case(setting, seed, 5 + 2 * seed)
+                run = (setting, *some_run(seed, setting, 5 + 2 * seed))
                 desk, right, log = Desk(*run), ByTheWords(*run), []
                 for _ in range(30):
                     deed = some_deed(pick, desk, setting[1])
@@ -568,7 +560,7 @@ class Lies(Desks):
                         ("setting", 11, 9, 2), ("setting", 11, 9, 4), ("setting", 5, 3, 1)):
             _, _, n, t = setting
             for seed in range(12):
-                run = case(setting, seed, 5 + seed)
+                run = (setting, *some_run(seed, setting, 5 + seed))
                 desk = self.lead(random.Random(seed), run, (n - t - 1) // 2)
                 lied += desk.report().count("lies 0") == 0
                 read = {k: x for party in desk.parties() for k, x in party.read}
@@ -600,7 +592,7 @@ class Lies(Desks):
     def test_a_whole_run_in_turns(self):
         for setting in SETTINGS:
             for seed in range(6):
-                run = case(setting, seed, 6 + seed)
+                run = (setting, *some_run(seed, setting, 6 + seed))
                 desk = Desk(*run)
                 while not desk.done:
                     desk.turn()

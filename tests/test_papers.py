@@ -4,14 +4,14 @@ import random
 import unittest
 
 from tests.oracle import (
-    numbers, plain_letters, plain_own, plain_view, similar_inputs, some_program, some_watchers,
+    fresh, numbers, plain_letters, plain_own, plain_view, similar_inputs, some_run, some_watchers,
 )
 from untold.coins import coins_of
 from untold.errors import BadEntry
 from untold.matching import matched
 from untold.papers import read_paper, seen, write_paper
 from untold.parties import Party, carried
-from untold.programs import epochs, input_rows
+from untold.programs import epochs
 
 SETTING = ("setting", 7, 3, 1)
 NEXT = ("next",)
@@ -28,13 +28,6 @@ PAPER = ("party 1", "inputs 2 6", "coins 1 0 5", "got 2 3 4", "got 1 2 5", "got 
 
 def text_of(*lines):
     return "".join(line + "\n" for line in lines)
-
-
-def case(setting, seed, many):
-    """A program with its inputs and coins that hang on the seed alone."""
-    program = some_program(seed, setting, many)
-    inputs = numbers(seed, setting[1], len(input_rows(program)))
-    return program, inputs, numbers(seed + 7, setting[1], coins_of(setting, program))
 
 
 class Papers(unittest.TestCase):
@@ -69,7 +62,7 @@ class Writing(Papers):
 
     def test_the_order_in_which_the_letters_were_taken(self):
         for seed in range(10):
-            program, inputs, coins = case(SETTING, seed, 9)
+            program, inputs, coins = some_run(seed, SETTING, 9)
             for party in carried(SETTING, program, inputs, coins, numbers(seed, 100, 60)):
                 lines = write_paper(party).split("\n")
                 self.assertEqual(lines[0], f"party {party.number}")
@@ -103,7 +96,7 @@ class ThereAndBack(Papers):
     def test_some_parties(self):
         for setting in SETTINGS:
             for seed in range(12):
-                program, inputs, coins = case(setting, seed, 4 + seed)
+                program, inputs, coins = some_run(seed, setting, 4 + seed)
                 letters = list(plain_letters(setting, program, inputs, coins))
                 random.Random(seed).shuffle(letters)
                 for number in range(1, setting[2] + 1):
@@ -237,7 +230,7 @@ class Seen(Papers):
     def test_some_programs_and_orders(self):
         for setting in SETTINGS:
             for seed in range(20):
-                program, inputs, coins = case(setting, seed, 4 + seed)
+                program, inputs, coins = some_run(seed, setting, 4 + seed)
                 watchers = some_watchers(seed, setting, program, setting[3])
                 self.hold(setting, program, inputs, coins, watchers, numbers(seed, 1000, 20 * seed))
 
@@ -255,8 +248,7 @@ class Seen(Papers):
 class TheSamePapers(Papers):
     def steps(self, setting, program, inputs, coins, order, watched):
         """The papers of the watched parties behind each letter of a run; order picks as carried does."""
-        parties = [Party(setting, program, i, *plain_own(setting, program, inputs, coins, i))
-                   for i in range(1, setting[2] + 1)]
+        parties = fresh(setting, program, inputs, coins)
         way = [letter for party in parties for letter in party.made]
         picks, found = list(order), []
         while way:
@@ -270,7 +262,7 @@ class TheSamePapers(Papers):
         others = 0
         for setting in SETTINGS[:5]:
             for seed in range(25):
-                program, first, coins = case(setting, seed, 4 + seed % 12)
+                program, first, coins = some_run(seed, setting, 4 + seed % 12)
                 watched = tuple(sorted(random.Random(seed).sample(range(1, setting[2] + 1), setting[3])))
                 watchers = (watched,) * epochs(program)
                 order = numbers(seed, 1000, 30)

@@ -4,13 +4,12 @@ import random
 import unittest
 from itertools import permutations, product
 
-from tests.oracle import has_and_made, numbers, plain_letters, plain_own, some_program
+from tests.oracle import fresh, has_and_made, numbers, plain_letters, plain_own, some_run
 from untold.coins import coins_of
 from untold.errors import BadEntry
 from untold.letters import letters_of
 from untold.parties import Party, carried, reached
 from untold.plain import shown
-from untold.programs import input_rows
 from untold.runs import run
 
 SETTING = ("setting", 7, 3, 1)
@@ -24,19 +23,6 @@ EACH_KIND = ("program", (
 SETTINGS = [("setting", *rest) for rest in (
     (2, 1, 0), (3, 2, 0), (5, 3, 1), (7, 3, 0), (7, 5, 1), (11, 6, 2), (11, 9, 4),
 )]
-
-
-def case(setting, seed, many):
-    """A program with its inputs and coins that hang on the seed alone."""
-    program = some_program(seed, setting, many)
-    inputs = numbers(seed, setting[1], len(input_rows(program)))
-    return program, inputs, numbers(seed + 7, setting[1], coins_of(setting, program))
-
-
-def fresh(setting, program, inputs, coins):
-    """The parties of a run without any letters."""
-    every = range(1, setting[2] + 1)
-    return [Party(setting, program, i, *plain_own(setting, program, inputs, coins, i)) for i in every]
 
 
 class Parties(unittest.TestCase):
@@ -143,7 +129,7 @@ class ByTheWords(Parties):
     def test_behind_each_letter_of_a_run_in_several_orders(self):
         for setting in SETTINGS:
             for seed in range(12):
-                program, inputs, coins = case(setting, seed, 4 + seed)
+                program, inputs, coins = some_run(seed, setting, 4 + seed)
                 letters = list(plain_letters(setting, program, inputs, coins))
                 # Any order: a letter may come long before what it is about is understood.
                 random.Random(seed).shuffle(letters)
@@ -164,7 +150,7 @@ class ByTheWords(Parties):
         nothing = 0
         for setting in SETTINGS:
             for seed in range(12):
-                program, inputs, coins = case(setting, seed + 50, 4 + seed)
+                program, inputs, coins = some_run(seed + 50, setting, 4 + seed)
                 parties = fresh(setting, program, inputs, coins)
                 letters = [(*letter[:4], pick.choice((letter[4], pick.randrange(setting[1]))))
                            for letter in plain_letters(setting, program, inputs, coins)]
@@ -178,7 +164,7 @@ class ByTheWords(Parties):
 
     def test_what_is_there_stays(self):
         for seed in range(10):
-            program, inputs, coins = case(SETTING, seed, 12)
+            program, inputs, coins = some_run(seed, SETTING, 12)
             letters = list(plain_letters(SETTING, program, inputs, coins))
             random.Random(seed).shuffle(letters)
             parties = fresh(SETTING, program, inputs, coins)
@@ -360,7 +346,7 @@ class Equality(Parties):
 
     def test_branches_on_the_way_of_a_run(self):
         for seed in range(12):
-            program, inputs, coins = case(SETTING, seed, 10)
+            program, inputs, coins = some_run(seed, SETTING, 10)
             letters = list(plain_letters(SETTING, program, inputs, coins))
             random.Random(seed).shuffle(letters)
             parties, old = fresh(SETTING, program, inputs, coins), []
@@ -407,7 +393,7 @@ class Carried(Parties):
     def test_some_programs(self):
         for setting in SETTINGS:
             for seed in range(15):
-                program, inputs, coins = case(setting, seed, 3 + seed)
+                program, inputs, coins = some_run(seed, setting, 3 + seed)
                 first = self.hold_run(setting, program, inputs, coins, numbers(seed, 997, 10 * seed))
                 second = self.hold_run(setting, program, inputs, coins, ())
                 self.assertEqual(first, second)
@@ -424,7 +410,7 @@ class Carried(Parties):
 
     def test_the_picks_by_the_words(self):
         for seed in range(20):
-            program, inputs, coins = case(SETTING, seed, 4 + seed)
+            program, inputs, coins = some_run(seed, SETTING, 4 + seed)
             order = numbers(seed, 50, 3 * seed)
             parties = fresh(SETTING, program, inputs, coins)
             way = [letter for party in parties for letter in party.made]
@@ -484,7 +470,7 @@ class Reached(Parties):
     def test_each_letter_lost_by_itself(self):
         for setting in SETTINGS[:5]:
             for seed in range(6):
-                program, inputs, coins = case(setting, seed, 8)
+                program, inputs, coins = some_run(seed, setting, 8)
                 for letter in letters_of(setting, program, inputs, coins):
                     lost = (letter[1:4],)
                     answer = reached(setting, program, lost)
@@ -494,7 +480,7 @@ class Reached(Parties):
         pick = random.Random(8)
         for setting in SETTINGS:
             for seed in range(25):
-                program, inputs, coins = case(setting, seed, 4 + seed)
+                program, inputs, coins = some_run(seed, setting, 4 + seed)
                 letters = letters_of(setting, program, inputs, coins)
                 lost = tuple(letter[1:4] for letter in letters if pick.random() < 0.05)
                 answer = reached(setting, program, lost + ((3, 1, 1), (0, 0, 0)))

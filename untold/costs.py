@@ -2,7 +2,6 @@
 
 from untold.letters import getters, senders
 from untold.programs import named
-from untold.sharing import parties_of
 
 
 def many_letters(setting, program):

@@ -5,7 +5,6 @@ from untold.errors import BadEntry
 from untold.kinds import are_numbers
 from untold.letters import draws, own_input_rows, own_places
 from untold.parties import Party
-from untold.programs import row_epochs
 from untold.programtext import lines_of
 from untold.sharing import parties_of
 from untold.views import row_stayers, row_watchers
